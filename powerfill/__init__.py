@@ -1,0 +1,1 @@
+"""Powers in balance: the most general filling that brings products of powers to nothing."""
